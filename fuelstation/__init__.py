@@ -1,0 +1,1 @@
+"""A filling station: tanks, nozzles, deliveries, sales and dips."""
