@@ -1,28 +1,17 @@
-"""The filling station: its calls, and what each of them answers."""
+"""The filling station: the calls that change it, and what a line of calls answers."""
 
+from fuelstation.looking import seen
 from fuelstation.nozzles import Nozzle
+from fuelstation.refusals import (
+    ALREADY, CANNOT_BE, HAS_NONE, NO_ROOM, NOT_BEGUN, NOT_ENOUGH, NOT_LIFTED, NOT_NOW, OUT_OF_RANGE, THERE_IS_NONE,
+)
 from fuelstation.sales import DRIVEN_OFF, PAID, UNPAID, Sale
 from fuelstation.tanks import Tank
-
-THERE_IS_NONE = -2
-NONE_SET = -6
-NOT_BEGUN = -11
-NOT_ENOUGH = -12
-NOT_LIFTED = -13
-NOT_NOW = -16
-ALREADY = -17
-OUT_OF_RANGE = -22
-NO_ROOM = -28
-CANNOT_BE = -33
 
 MOST_TANKS = 6
 MOST_NOZZLES = 8
 MOST_SALES = 60
 MOST_KIND = 5
-
-
-class UnknownCall(ValueError):
-    """A call was made that the station doesn't answer."""
 
 
 class Station:
@@ -50,6 +39,10 @@ class Station:
         """How much the nozzle can pour of what is asked for."""
         usable = [tank.usable(self.low) for tank in self.drawn_tanks(nozzle)]
         return nozzle.greatest(asked, usable)
+
+    def is_drawn_from(self, t):
+        """Whether a nozzle that draws from the tank is lifted."""
+        return any([nozzle.lifted for nozzle in self.nozzles if t == nozzle.first or t == nozzle.other])
 
 
 def begin(station, low, high):
@@ -130,7 +123,7 @@ def lift(station, z, limit):
     if nozzle.lifted:
         return [NOT_NOW]
     if nozzle.price == 0:
-        return [NONE_SET]
+        return [HAS_NONE]
     if any([tank.spoiled for tank in station.drawn_tanks(nozzle)]):
         return [CANNOT_BE]
     if station.can_pour(nozzle, 1) == 0:
@@ -149,7 +142,7 @@ def pour(station, z, asked):
         return [NOT_LIFTED]
     poured = station.can_pour(nozzle, asked)
     for tank, came, booked in zip(station.drawn_tanks(nozzle), nozzle.coming(poured), nozzle.booking(poured)):
-        tank.give_out(came, booked)
+        tank.give_out(came, booked, station.hour)
     nozzle.shown += poured
     return [poured]
 
@@ -229,11 +222,21 @@ def dip(station, t):
     return [tank.fuel, tank.water, missing]
 
 
-def losses(station, t):
+def drain(station, t):
     if t >= len(station.tanks):
         return [THERE_IS_NONE]
-    missed = station.tanks[t].missed
-    return [len(missed), sum(missed)]
+    if station.is_drawn_from(t):
+        return [NOT_NOW]
+    return station.tanks[t].drain()
+
+
+def dry(station, t):
+    if t >= len(station.tanks):
+        return [THERE_IS_NONE]
+    tank = station.tanks[t]
+    if tank.water == 0:
+        return [HAS_NONE]
+    return [tank.pump_out()]
 
 
 BEGIN = 0
@@ -241,7 +244,7 @@ BEGIN = 0
 # How many numbers follow each call's own: a line is read by it even where the call is refused.
 ARGUMENTS = (2, 2, 3, 2, 2, 3, 2, 2, 1, 1, 1, 2, 2, 1, 1, 1, 1, 1, 1, 1, 1, 1, 1, 1, 0, 1, 0, 0, 1, 0, 0)
 
-OF_ONE = {8: hang, 9: pay, 10: gone, 13: hours, 14: dip, 15: losses}
+OF_ONE = {8: hang, 9: pay, 10: gone, 13: hours, 14: dip, 17: drain, 18: dry}
 
 OF_TWO = {0: begin, 1: add_tank, 3: set_price, 4: set_meter, 6: lift, 7: pour, 11: set_leak, 12: set_seep}
 
@@ -258,7 +261,7 @@ def answer_of(station, number, given):
         return OF_TWO[number](station, given[0], given[1])
     if number in OF_THREE:
         return OF_THREE[number](station, given[0], given[1], given[2])
-    raise UnknownCall(f"no such call: {number}")
+    return seen(station, number, given)
 
 
 def answers(calls):

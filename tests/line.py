@@ -7,6 +7,8 @@ FAR = 4294967295
 NUMBERS = {
     "begin": 0, "tank": 1, "nozzle": 2, "price": 3, "meter": 4, "drop": 5, "lift": 6, "pour": 7,
     "hang": 8, "pay": 9, "gone": 10, "leak": 11, "seep": 12, "hours": 13, "dip": 14, "losses": 15,
+    "suspects": 16, "drain": 17, "dry": 18, "room": 19, "usable": 20, "could": 21, "lasts": 22, "order": 23,
+    "open": 24, "sale": 25, "sold": 26, "money": 27, "look": 28, "sums": 29, "state": 30,
 }
 
 
@@ -37,12 +39,18 @@ def parted(told):
     return found
 
 
-def run(text):
-    """The answers to all calls of the text."""
-    rows = calls(text)
-    found = parted(answers(flat(rows)))
+def told(rows):
+    """The answers to all these calls."""
+    line = flat(rows)
+    assert len(rows) <= 256 and len(line) <= 1024, "no such line is handed in"
+    found = parted(answers(line))
     assert len(found) == len(rows), (rows, found)
     return found
+
+
+def run(text):
+    """The answers to all calls of the text."""
+    return told(calls(text))
 
 
 def last(text):

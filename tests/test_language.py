@@ -116,6 +116,27 @@ class Forms(unittest.TestCase):
             defined |= {one.targets[0].id for one in ast.parse(source.read_text()).body if isinstance(one, ast.Assign)}
             self.assertLessEqual({one.name for one in node.names}, defined, where)
 
+    def test_no_two_files_draw_from_one_another(self):
+        drawn = {path.name: set() for path in FILES}
+        for where, node in nodes(ast.ImportFrom):
+            drawn[where].add(node.module.split(".")[1] + ".py")
+        while drawn:
+            free = [name for name in drawn if not drawn[name] & set(drawn)]
+            self.assertNotEqual(free, [], drawn)
+            drawn = {name: drawn[name] for name in drawn if name not in free}
+
+    def test_the_top_of_a_file(self):
+        for where, tree in trees():
+            above = set()
+            for node in tree.body:
+                if isinstance(node, ast.FunctionDef):
+                    above.add(node.name)
+                if isinstance(node, ast.Assign):
+                    values = [one for one in ast.walk(node.value) if isinstance(one, ast.Name)]
+                    self.assertLessEqual({one.id for one in values}, above, (where, node.lineno))
+                    calls = [one for one in ast.walk(node.value) if isinstance(one, (ast.Call, ast.BinOp))]
+                    self.assertEqual(calls, [], (where, node.lineno))
+
 
 class Names(unittest.TestCase):
     def test_plain_names(self):

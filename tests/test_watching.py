@@ -1,4 +1,4 @@
-"""Point 4, as far as leak, seep, hours, dip and losses."""
+"""Point 4, its beginning: leak, seep, hours, dip, losses."""
 
 import unittest
 
